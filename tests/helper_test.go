@@ -2,6 +2,7 @@ package tests
 
 import (
 	"math"
+	"slices"
 
 	"loop.example/g00403/impl"
 )
@@ -51,4 +52,73 @@ func faulty() []impl.Point {
 		list = append(list, at(n, 0), at(0, n), at(n, n), at(n, -n))
 	}
 	return list
+}
+
+// far are numbers far outside of all bounds.
+var far = []int64{math.MinInt64, math.MinInt64 + 1, -1 << 32, -1 << 31, -65536, 65536, 1 << 31, 1 << 32, 1<<32 + 1, 1<<40 + 1, math.MaxInt64 - 1, math.MaxInt64}
+
+// kindBounds are the kinds, each with its least and most points.
+var kindBounds = []struct {
+	kind        int64
+	least, most int64
+}{{impl.KindPoint, 1, 1}, {impl.KindLine, 2, 12}, {impl.KindArea, 3, 12}}
+
+// label is a text of 0 to 6 bytes a to z.
+func (n *numbers) label() string {
+	var text []byte
+	for range n.next(0, 6) {
+		text = append(text, byte(n.next('a', 'z')))
+	}
+	return string(text)
+}
+
+// feature is a feature without a fault, of that Id.
+func (n *numbers) feature(id int64) impl.Feature {
+	k := kindBounds[n.next(0, 2)]
+	return impl.Feature{
+		Id: id, Layer: n.next(0, 9), Kind: k.kind, Width: n.next(0, 3), Priority: n.next(0, 9), Label: n.label(),
+		Points: n.points(int(n.next(k.least, k.most)), 0, impl.World),
+	}
+}
+
+// features are count features without a fault, of Ids that are all others.
+func (n *numbers) features(count int) []impl.Feature {
+	var list []impl.Feature
+	for len(list) < count {
+		id := n.next(1, 999)
+		if n.next(0, 1) == 0 {
+			id = n.next(1, 20)
+		}
+		if !slices.ContainsFunc(list, func(f impl.Feature) bool { return f.Id == id }) {
+			list = append(list, n.feature(id))
+		}
+	}
+	return list
+}
+
+// shuffle puts the list into another order.
+func shuffle[T any](n *numbers, list []T) {
+	for i := range list {
+		k := n.next(0, int64(i))
+		list[i], list[k] = list[k], list[i]
+	}
+}
+
+// copyOf is the same list, in memory of its own, with points of their own.
+func copyOf(list []impl.Feature) []impl.Feature {
+	other := slices.Clone(list)
+	for i := range other {
+		other[i].Points = slices.Clone(other[i].Points)
+	}
+	return other
+}
+
+// spoil writes over all that the features have in memory.
+func spoil(list []impl.Feature) {
+	for i := range list {
+		for k := range list[i].Points[:cap(list[i].Points)] {
+			list[i].Points[:cap(list[i].Points)][k] = at(-7, -7)
+		}
+		list[i] = impl.Feature{Id: -7}
+	}
 }
