@@ -2,7 +2,9 @@ package tests
 
 import (
 	"math"
+	"reflect"
 	"slices"
+	"testing"
 
 	"loop.example/g00403/impl"
 )
@@ -120,5 +122,58 @@ func spoil(list []impl.Feature) {
 			list[i].Points[:cap(list[i].Points)][k] = at(-7, -7)
 		}
 		list[i] = impl.Feature{Id: -7}
+	}
+}
+
+// answered is what the functions of a layer answer.
+type answered interface {
+	codes() []int64
+	isZero() bool // all that stands beside a code
+}
+
+// asking are the arguments of the functions of a layer.
+type asking[C any, A answered] interface {
+	ask() A
+	copy() C        // the same in memory of its own
+	memory() C      // all that it has in memory, what is behind the ends of its lists with it
+	codes() []int64 // that the document asks for
+}
+
+// expectAnswers asks for P1: an answer at every argument, with the code that is
+// asked for, which changes none, is zero beside a code, and is the same again
+// for the same arguments elsewhere. Each of codes has to come, function by
+// function, often enough.
+func expectAnswers[C asking[C, A], A answered](t *testing.T, rounds int, next func() C, codes ...[]int64) {
+	t.Helper()
+	seen := make([]map[int64]int, len(codes))
+	for i := range seen {
+		seen[i] = map[int64]int{}
+	}
+	for range rounds {
+		c := next()
+		given := c.memory()
+		got := c.ask()
+		if !reflect.DeepEqual(given, c.memory()) {
+			t.Fatalf("%v: an argument was changed", c)
+		}
+		if want := c.codes(); !slices.Equal(got.codes(), want) {
+			t.Fatalf("%v: %v, not %v", c, got, want)
+		}
+		if !got.isZero() {
+			t.Fatalf("%v: beside a code %v", c, got)
+		}
+		if again := c.copy().ask(); !reflect.DeepEqual(again, got) {
+			t.Fatalf("%v, then %v", got, again)
+		}
+		for i, code := range got.codes() {
+			seen[i][code]++
+		}
+	}
+	for i := range codes {
+		for _, code := range append([]int64{impl.OK}, codes[i]...) {
+			if seen[i][code] < 10 {
+				t.Error("the test asks for little", i, code, seen[i])
+			}
+		}
 	}
 }
