@@ -355,18 +355,24 @@ func TestPromise1OfRastersForThemselves(t *testing.T) {
 	}
 }
 
+// expectInWhateverOrder asks of features for the same answer in several orders.
+func expectInWhateverOrder(t *testing.T, n *numbers, list []impl.Feature, tell func() impl.IntsResult) {
+	t.Helper()
+	want := tell()
+	for range 3 {
+		shuffle(n, list)
+		if got := tell(); !reflect.DeepEqual(got, want) {
+			t.Fatalf("%v: %v, not %v", list, got, want)
+		}
+	}
+}
+
 // P1, chapter 8: what is seen does not hang on the order in which features
 // came.
 func TestPromise1OfRastersInWhateverOrder(t *testing.T) {
 	n := numbers(107)
 	for range 150 {
 		list, r := crowd(&n), someRef(&n)
-		want := impl.RefRaster(list, r)
-		for range 3 {
-			shuffle(&n, list)
-			if got := impl.RefRaster(list, r); !reflect.DeepEqual(got, want) {
-				t.Fatalf("%v of %v: %v, not %v", r, list, got, want)
-			}
-		}
+		expectInWhateverOrder(t, &n, list, func() impl.IntsResult { return impl.RefRaster(list, r) })
 	}
 }
