@@ -177,3 +177,21 @@ func expectAnswers[C asking[C, A], A answered](t *testing.T, rounds int, next fu
 		}
 	}
 }
+
+// expectOwnMemory asks of a call whose answer was spoiled, and told once more as
+// kept, that neither the arguments nor an answer hangs on that, and that no
+// answer hangs on what becomes of the arguments.
+func expectOwnMemory[C asking[C, A], A answered](t *testing.T, c, given C, kept A, spoil func()) {
+	t.Helper()
+	if !reflect.DeepEqual(given, c.memory()) {
+		t.Fatalf("%v: an answer is of its memory", c)
+	}
+	if again := c.ask(); !reflect.DeepEqual(again, kept) {
+		t.Fatalf("%v: an answer hangs on another one", c)
+	}
+	other := c.copy()
+	spoil()
+	if again := other.ask(); !reflect.DeepEqual(again, kept) {
+		t.Fatalf("%v: %v was spoiled with the argument", other, kept)
+	}
+}

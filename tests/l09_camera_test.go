@@ -686,41 +686,49 @@ func TestRefFrameAgainstTheDocument(t *testing.T) {
 	}
 }
 
-// Features with a fault: their code, and where the camera has one as well, its
-// own ahead of it.
-func TestRefFrameWrong(t *testing.T) {
+// eachWrong tells features and cameras of which one has a fault, or both, with
+// the code that is asked for: that of the camera ahead of that of the features.
+func eachWrong(tell func(what string, list []impl.Feature, c impl.Camera, code int64)) {
 	wrong, codes := wrongFeatures()
 	for i, f := range wrong {
 		for _, c := range []impl.Camera{cam(0, 0, 0, 8, 8), cam(3, 63, 63, 1, 1)} {
 			for _, list := range [][]impl.Feature{{f}, append(numbered(9, 8), f), append([]impl.Feature{f}, numbered(8, 8)...)} {
-				expectNoRaster(t, fmt.Sprint(c, i), impl.RefFrame(list, c), codes[i])
+				tell(fmt.Sprint(c, i), list, c, codes[i])
 			}
 		}
 	}
-	unread := numbered(5)
-	unread[0].Label = "?"
+	unread, unnamed := numbered(5), numbered(4, 4)
+	unread[0].Label, unnamed[0].Label, unnamed[1].Label = "?", "", ""
 	lists := []struct {
 		list []impl.Feature
 		code int64
 	}{
 		{numbered(1, 1), impl.ErrTaken},
 		{numbered(3, 2, 3), impl.ErrTaken},
+		{unnamed, impl.ErrTaken},
 		{unread, impl.ErrText},
 		{append(numbered(9, 9), unread...), impl.ErrTaken},
+		{append(unread, numbered(9, 9)...), impl.ErrText},
 		{numbered(1, 2, 3, 4, 5, 6, 7, 8, 9, 10, 11, 12, 13), impl.ErrMany},
 		{make([]impl.Feature, 3000), impl.ErrMany},
 		{make([]impl.Feature, 12), impl.ErrRange},
 	}
 	for i, l := range lists {
 		for _, c := range camerasOf(0, []int64{1, 8}, []int64{1, 8}) {
-			expectNoRaster(t, fmt.Sprint(c, i), impl.RefFrame(l.list, c), l.code)
+			tell(fmt.Sprint(c, i), l.list, c, l.code)
 		}
 	}
 	for _, c := range wrongCameras() {
 		for i, l := range lists {
-			expectNoRaster(t, fmt.Sprint(c, i), impl.RefFrame(l.list, c), impl.ErrRange)
+			tell(fmt.Sprint(c, i), l.list, c, impl.ErrRange)
 		}
-		expectNoRaster(t, fmt.Sprint(c), impl.RefFrame(nil, c), impl.ErrRange)
-		expectNoRaster(t, fmt.Sprint(c), impl.RefFrame(two(), c), impl.ErrRange)
+		tell(fmt.Sprint(c), nil, c, impl.ErrRange)
+		tell(fmt.Sprint(c), two(), c, impl.ErrRange)
 	}
+}
+
+func TestRefFrameWrong(t *testing.T) {
+	eachWrong(func(what string, list []impl.Feature, c impl.Camera, code int64) {
+		expectNoRaster(t, what, impl.RefFrame(list, c), code)
+	})
 }

@@ -366,17 +366,7 @@ func TestPromise1OfCamerasNewMemory(t *testing.T) {
 		for i := range got.refs.Refs[:cap(got.refs.Refs)] {
 			got.refs.Refs[:cap(got.refs.Refs)][i] = ref(-7, -7, -7)
 		}
-		if !reflect.DeepEqual(given, c.memory()) {
-			t.Fatalf("%v: an answer is of its memory", c)
-		}
-		if again := c.ask(); !reflect.DeepEqual(again, kept) {
-			t.Fatalf("%v: an answer hangs on another one", c)
-		}
-		other := c.copy()
-		spoil(c.list)
-		if again := other.ask(); !reflect.DeepEqual(again, kept) {
-			t.Fatalf("%v: %v was spoiled with the argument", other, kept)
-		}
+		expectOwnMemory(t, c, given, kept, func() { spoil(c.list) })
 	}
 }
 

@@ -367,17 +367,7 @@ func TestPromise1OfTilesNewMemory(t *testing.T) {
 		spoil(got.built.Tile.Features)
 		spoilBytes(got.served.Bytes)
 		spoil(got.read.Tile.Features)
-		if !reflect.DeepEqual(given, c.memory()) {
-			t.Fatalf("%v: an answer is of its memory", c)
-		}
-		if again := c.ask(); !reflect.DeepEqual(again, kept) {
-			t.Fatalf("%v: an answer hangs on another one", c)
-		}
-		other := c.copy()
-		c.spoil()
-		if again := other.ask(); !reflect.DeepEqual(again, kept) {
-			t.Fatalf("%v: %v was spoiled with the argument", other, kept)
-		}
+		expectOwnMemory(t, c, given, kept, c.spoil)
 	}
 }
 

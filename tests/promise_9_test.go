@@ -322,16 +322,10 @@ func TestPromise1OfRastersNewMemory(t *testing.T) {
 				}
 			}
 		}
-		if !reflect.DeepEqual(given, c.memory()) {
-			t.Fatalf("%v: an answer is of its memory", c)
-		}
-		if again := c.ask(); !reflect.DeepEqual(again, kept) {
-			t.Fatalf("%v: an answer hangs on another one", c)
-		}
-		other, text := c.copy(), kept.text.Text
-		c.spoil()
-		if again := other.ask(); !reflect.DeepEqual(again, kept) || text != textAs(other.ids) {
-			t.Fatalf("%v: %v was spoiled with the argument", other, kept)
+		text := textAs(c.ids)
+		expectOwnMemory(t, c, given, kept, c.spoil)
+		if kept.text.Text != text {
+			t.Fatalf("%v was spoiled with the argument", kept)
 		}
 	}
 }
@@ -356,7 +350,7 @@ func TestPromise1OfRastersForThemselves(t *testing.T) {
 }
 
 // expectInWhateverOrder asks of features for the same answer in several orders.
-func expectInWhateverOrder(t *testing.T, n *numbers, list []impl.Feature, tell func() impl.IntsResult) {
+func expectInWhateverOrder[A any](t *testing.T, n *numbers, list []impl.Feature, tell func() A) {
 	t.Helper()
 	want := tell()
 	for range 3 {
