@@ -137,18 +137,22 @@ func TestAnchorOfWhateverElse(t *testing.T) {
 	}
 }
 
-// anchorAs is the anchor of a feature by what the document says of it.
-func anchorAs(f impl.Feature, z int64) impl.Point {
-	first, unit := simpleAs(f, z)[0], units[z]
+// pixelAs is the pixel of a point of the world, found by asking pixel by pixel.
+func pixelAs(p impl.Point, z int64) impl.Point {
 	pixel := func(n int64) int64 {
 		for p := range counts[z] {
-			if n < (p+1)*unit {
+			if n < (p+1)*units[z] {
 				return p
 			}
 		}
 		return counts[z] - 1
 	}
-	return at(pixel(first.X), pixel(first.Y))
+	return at(pixel(p.X), pixel(p.Y))
+}
+
+// anchorAs is the anchor of a feature by what the document says of it.
+func anchorAs(f impl.Feature, z int64) impl.Point {
+	return pixelAs(simpleAs(f, z)[0], z)
 }
 
 func TestAnchorOfAgainstTheDocument(t *testing.T) {
@@ -244,14 +248,18 @@ func TestLabelBoxOfNoName(t *testing.T) {
 	}
 }
 
-// boxAs is the box of a label by what the document says of it.
-func boxAs(f impl.Feature, z int64) impl.Placed {
-	anchor := anchorAs(f, z)
+// boxFrom is the box of a label that begins at a pixel.
+func boxFrom(f impl.Feature, anchor impl.Point) impl.Placed {
 	b := box(f.Id, anchor.X, anchor.Y, 0, 3)
 	for range f.Label {
 		b.W += 2
 	}
 	return b
+}
+
+// boxAs is the box of a label by what the document says of it.
+func boxAs(f impl.Feature, z int64) impl.Placed {
+	return boxFrom(f, anchorAs(f, z))
 }
 
 func TestLabelBoxAgainstTheDocument(t *testing.T) {
@@ -616,10 +624,15 @@ func TestPlaceLabelsAtTheBorderOfTheWorld(t *testing.T) {
 // placeAs are the labels that are placed by what the document says of it, with
 // the pixels that are taken kept one by one, and how many are left out.
 func placeAs(list []impl.Feature, c impl.Camera) (placed []impl.Placed, left int) {
+	return placeBoxesAs(list, c, boxAs)
+}
+
+// placeBoxesAs does so with the box that is told of each label.
+func placeBoxesAs(list []impl.Feature, c impl.Camera, boxOf func(f impl.Feature, z int64) impl.Placed) (placed []impl.Placed, left int) {
 	taken := map[impl.Point]bool{}
 	waiting := map[int64]impl.Placed{} // by what comes first
 	for _, f := range list {
-		b := boxAs(f, c.Z)
+		b := boxOf(f, c.Z)
 		if b.W > 0 && b.X >= c.X && b.X < c.X+c.W && b.Y >= c.Y && b.Y < c.Y+c.H {
 			waiting[f.Priority*1000+f.Id] = b
 		}

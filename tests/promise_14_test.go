@@ -182,8 +182,58 @@ func (w *walker) err(t *testing.T) string {
 	return "far"
 }
 
+// sight is all that a viewer sees.
+type sight struct {
+	frame      impl.IntsResult
+	isComplete bool
+	labels     impl.PlacedResult
+	text       impl.TextResult
+}
+
+func sightOf(v impl.Viewer) sight {
+	return sight{impl.FrameOf(v), impl.IsComplete(v), impl.LabelsIn(v), impl.FrameText(v)}
+}
+
+// at is the Id that the frame of a camera has at a pixel of the world; false, if
+// that is not seen.
+func (s sight) at(c impl.Camera, x, y int64) (int64, bool) {
+	x, y = x-c.X, y-c.Y
+	if x < 0 || x >= c.W || y < 0 || y >= c.H {
+		return 0, false
+	}
+	return s.frame.List[y*c.W+x], true
+}
+
+// expectSight asks what a step did to what is seen: nothing where nothing but a
+// count or the time changed, and to no pixel where one looks elsewhere; what was
+// taken is seen, and all else that is there is seen as it was.
+func expectSight(t *testing.T, what string, before, after impl.Viewer) {
+	t.Helper()
+	was, is := sightOf(before), sightOf(after)
+	if is.isComplete != (len(after.Requests) == 0) || is.isComplete != (len(impl.MissingIn(after).Refs) == 0) {
+		t.Fatalf("%s: complete %v, and asked for is %v", what, is.isComplete, after.Requests)
+	}
+	switch what {
+	case "not asked for", "not read", "does not reach", "due", "not due", "far":
+		if !reflect.DeepEqual(is, was) {
+			t.Fatalf("%s: %v, not %v", what, is, was)
+		}
+		return
+	}
+	c, there := after.Camera, refsIn(after.Cache)
+	for place, id := range is.frame.List {
+		x, y := c.X+int64(place)%c.W, c.Y+int64(place)/c.W
+		if k := slices.Index(there, ref(c.Z, x/8, y/8)); k >= 0 && id != after.Cache.Kept[k].Ids[y%8*8+x%8] {
+			t.Fatalf("%s: %d at %d,%d, not that of %v", what, id, x, y, after.Cache.Kept[k])
+		}
+		if other, ok := was.at(before.Camera, x, y); ok && before.Camera.Z == c.Z && what != "taken" && id != other {
+			t.Fatalf("%s: %d at %d,%d, not %d", what, id, x, y, other)
+		}
+	}
+}
+
 func (w *walker) step(t *testing.T) {
-	what := ""
+	what, before := "", w.v
 	most := int64(9)
 	if len(w.v.Requests) == 0 {
 		most = 6 // little comes of a reply where nothing was asked for
@@ -200,6 +250,12 @@ func (w *walker) step(t *testing.T) {
 	}
 	w.done[what]++
 	expectAllSeen(t, what, w.v)
+	expectSight(t, what, before, w.v)
+	if impl.IsComplete(w.v) {
+		w.done["complete"]++
+	} else if slices.Max(impl.FrameOf(w.v).List) > 0 {
+		w.done["as far as it has come"]++
+	}
 }
 
 // P14: whatever one does all that is seen is there or asked for, and nothing
@@ -217,7 +273,7 @@ func TestPromise14(t *testing.T) {
 			w.step(t)
 		}
 	}
-	for _, what := range []string{"pan", "zoom", "size", "taken", "not asked for", "not read", "does not reach", "due", "not due", "far"} {
+	for _, what := range []string{"pan", "zoom", "size", "taken", "not asked for", "not read", "does not reach", "due", "not due", "far", "complete", "as far as it has come"} {
 		if done[what] < 100 {
 			t.Error("the test asks for little", what, done)
 		}
@@ -316,6 +372,8 @@ func TestPromise14InWhateverOrder(t *testing.T) {
 			}
 		}
 		expectMissing(t, "all are there", v)
+		expectComplete(t, "all are there", v, true)
+		expectRaster(t, "all are there", impl.FrameOf(v), impl.RefFrame(list, c).List)
 	}
 }
 
