@@ -560,7 +560,7 @@ func TestPromise1OfViewers(t *testing.T) {
 	took := 0
 	expectAnswers(t, 5000, func() viewerCall {
 		c := strangeViewerCall(&n)
-		if c.ask().heard.Took {
+		if c.copy().ask().heard.Took {
 			took++
 		}
 		return c
